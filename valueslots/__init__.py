@@ -1,0 +1,1 @@
+"""Few registers: code of blocks, built and asked about by calls."""
