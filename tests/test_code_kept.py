@@ -1,4 +1,4 @@
-"""What the calls keep of the code: promises 1 to 3, where no answer shows it yet."""
+"""What the calls keep of the code: promises 1 to 3, also where no answer shows it."""
 
 import unittest
 

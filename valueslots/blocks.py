@@ -1,5 +1,9 @@
 """Calls about one code, read from one list of whole numbers, and their answers in another."""
 
+from valueslots.asking import (
+    ask_in_registers, ask_lives, ask_most, ask_registers, ask_run, ask_run_in_registers, ask_there, ask_together,
+    refusal_of_all,
+)
 from valueslots.building import Code
 
 CODE = 0
@@ -9,6 +13,14 @@ TWO = 3
 SAY = 4
 JUMP = 5
 FORK = 6
+GIVE = 7
+RUN = 8
+LIVES = 9
+THERE = 10
+MOST = 11
+TOGETHER = 12
+REGISTERS = 13
+INREGISTERS = 14
 
 # By the call's number: how many whole numbers it has, and whether a list stands behind them.
 FORMS = (
@@ -20,6 +32,14 @@ FORMS = (
     (1, True),
     (4, True),
     (1, False),
+    (1, True),
+    (2, False),
+    (2, False),
+    (0, False),
+    (2, False),
+    (0, False),
+    (0, False),
+    (1, True),
 )
 
 
@@ -28,7 +48,7 @@ def answers(calls):
     code = Code()
     told = []
     for call, numbers, listed in split_calls(calls):
-        answer = [build(code, call, numbers, listed)]
+        answer = answer_to(code, call, numbers, listed)
         told.append(len(answer))
         told.extend(answer)
     return told
@@ -51,6 +71,15 @@ def split_calls(calls):
     return parts
 
 
+def answer_to(code, call, numbers, listed):
+    if call <= GIVE:
+        return [build(code, call, numbers, listed)]
+    refusal = refusal_of_all(code)
+    if refusal < 0:
+        return [refusal]
+    return ask(code, call, numbers, listed)
+
+
 # Do a call that builds the code, and give the one number that it answers.
 def build(code, call, numbers, listed):
     if call == CODE:
@@ -67,5 +96,25 @@ def build(code, call, numbers, listed):
         return code.jump(numbers[0], listed)
     if call == FORK:
         return code.fork(numbers[0], numbers[1], numbers[2], numbers[3], listed)
-    # FORMS has one more call than are told apart above: give.
+    # The one call left that builds: give.
     return code.give(numbers[0])
+
+
+# Give all that a call that asks about fair code answers.
+def ask(code, call, numbers, listed):
+    if call == RUN:
+        return ask_run(code, numbers[0], listed)
+    if call == LIVES:
+        return ask_lives(code, numbers[0], numbers[1])
+    if call == THERE:
+        return ask_there(code, numbers[0], numbers[1])
+    if call == MOST:
+        return ask_most(code)
+    if call == TOGETHER:
+        return ask_together(code, numbers[0], numbers[1])
+    if call == REGISTERS:
+        return ask_registers(code)
+    if call == INREGISTERS:
+        return ask_in_registers(code)
+    # The one call left that asks: runregisters.
+    return ask_run_in_registers(code, numbers[0], listed)
